@@ -1,0 +1,1 @@
+"""Holefloor: webs on floors, and how many holes a floor needs."""

@@ -1,0 +1,73 @@
+"""The rules of form that a machine can easily see."""
+
+import ast
+import builtins
+import pathlib
+import re
+import unittest
+
+FOLDER = pathlib.Path(__file__).resolve().parent.parent / "holefloor"
+FILES = sorted(path for path in FOLDER.rglob("*") if path.is_file() and path.suffix != ".pyc")
+
+BARRED_WORDS = re.compile(
+    r"\b(type|typing|typing_extensions|enum|Enum|IntEnum|StrEnum|Flag|IntFlag|Generic|Protocol|ABC|ABCMeta"
+    r"|namedtuple|NamedTuple|TypedDict|TYPE_CHECKING|abstractmethod)\b|dataclass|overload|contextmanager"
+)
+BARRED_NODES = (
+    ast.With, ast.Match, ast.Global, ast.Nonlocal, ast.Yield, ast.YieldFrom, ast.Await, ast.AsyncFunctionDef,
+    ast.AsyncFor, ast.AsyncWith, ast.GeneratorExp, ast.NamedExpr, ast.Import, ast.Div, ast.MatMult,
+)
+OWN_NAMES = set(
+    "len range enumerate zip min max sum abs sorted reversed int str bool bytes list tuple dict set frozenset"
+    " isinstance ord repr any all divmod Exception ValueError TypeError KeyError IndexError LookupError"
+    " ZeroDivisionError ArithmeticError OverflowError RuntimeError NotImplementedError AttributeError"
+    " StopIteration".split()
+)
+BUILT_IN = set(dir(builtins))
+
+
+class Form(unittest.TestCase):
+    def nodes(self):
+        for path in FILES:
+            for node in ast.walk(ast.parse(path.read_text())):
+                yield path.name, node
+
+    def test_only_plain_python_files(self):
+        self.assertIn("__init__.py", [path.name for path in FILES])
+        for path in FILES:
+            self.assertRegex(path.name, r"^(__init__|[a-z][a-z0-9_]*)\.py$")
+
+    def test_sizes_and_signs(self):
+        for path in FILES:
+            text = path.read_text()
+            self.assertRegex(text, r"\A[ -~\n]*\Z", path.name)
+            self.assertLessEqual(len(text.splitlines()), 400, path.name)
+            for line in text.splitlines():
+                self.assertLessEqual(len(line), 120, (path.name, line))
+            self.assertIsNone(BARRED_WORDS.search(text), path.name)
+
+    def test_functions_are_short_and_bare(self):
+        for name, node in self.nodes():
+            if isinstance(node, ast.FunctionDef):
+                self.assertLessEqual(node.end_lineno - node.lineno + 1, 40, (name, node.name))
+                self.assertEqual(node.decorator_list, [], (name, node.name))
+                self.assertIsNone(node.args.vararg or node.args.kwarg, (name, node.name))
+
+    def test_imports_are_the_packages_own(self):
+        for name, node in self.nodes():
+            if isinstance(node, ast.ImportFrom):
+                self.assertEqual(node.level, 0, name)
+                self.assertRegex(node.module, r"^holefloor\.[a-z]+$", name)
+                self.assertNotIn("*", [alias.name for alias in node.names], name)
+
+    def test_nothing_barred_is_written(self):
+        for name, node in self.nodes():
+            self.assertNotIsInstance(node, BARRED_NODES, name)
+            if isinstance(node, ast.Constant):
+                self.assertNotIsInstance(node.value, (float, complex), name)
+                self.assertNotIn("%", str(node.value), name)
+            if isinstance(node, ast.Name) and node.id in BUILT_IN:
+                self.assertIn(node.id, OWN_NAMES, name)
+                self.assertIsInstance(node.ctx, ast.Load, (name, node.id))
+            if isinstance(node, ast.arg):
+                self.assertNotIn(node.arg, BUILT_IN, name)
