@@ -1,4 +1,8 @@
-"""Webs that several tests go through."""
+"""Webs and orders that several tests go through."""
+
+import itertools
+
+from holefloor.numbers import order_at, orders_many
 
 ONE_PLACE = (1, ())
 LOOP = (1, ((0, 0),))
@@ -23,3 +27,26 @@ SMALL_WEBS = (
     THREE_BY_THREE, SEVERAL, SCATTERED,
 )
 WEBS = SMALL_WEBS + (NO_TIES, LONG_PATH, LOOPS_24, TIES_24)
+
+
+def rows_by_hand(ends):
+    """All rows of the rising ends, begun with the least one, sorted."""
+    return [tuple(ends[:1]) + rest for rest in itertools.permutations(ends[1:])]
+
+
+def orders_by_hand(web):
+    """All orders of the web, sorted, found by going through them."""
+    many, ties = web
+    rounds = [[] for place in range(many)]
+    for k, (a, b) in enumerate(ties):
+        rounds[a].append(2 * k)
+        rounds[b].append(2 * k + 1)
+    return sorted(itertools.product(*[rows_by_hand(ends) for ends in rounds]))
+
+
+def some_orders(web):
+    """All orders of a small web, some of a greater one."""
+    if web in SMALL_WEBS:
+        return orders_by_hand(web)
+    many = orders_many(web)
+    return [order_at(web, number) for number in sorted({0, many // 3, many // 2, many * 5 // 7, many - 1})]
