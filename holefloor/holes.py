@@ -6,8 +6,13 @@ from holefloor.webs import parts_of, place_of
 
 def holes(web, order):
     """How many holes the order has."""
+    return lacking(web, len(faces(web, order))) // 2
+
+
+def lacking(web, faces_many):
+    """Twice the parts, less the places, the ties added, less so many faces."""
     many, ties = web
-    return (2 * len(parts_of(web)) - many + len(ties) - len(faces(web, order))) // 2
+    return 2 * len(parts_of(web)) - many + len(ties) - faces_many
 
 
 def holes_by_parts(web, order):

@@ -43,4 +43,9 @@ def forerunner(web, order, end):
 
 def mirrored(order):
     """The order with the ends turned about at each place."""
-    return tuple([least_first(row[::-1]) for row in order])
+    return tuple([turned_about(row) for row in order])
+
+
+def turned_about(row):
+    """The row gone the other way about."""
+    return least_first(row[::-1])

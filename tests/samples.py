@@ -50,3 +50,28 @@ def some_orders(web):
         return orders_by_hand(web)
     many = orders_many(web)
     return [order_at(web, number) for number in sorted({0, many // 3, many // 2, many * 5 // 7, many - 1})]
+
+
+def some_crossings(web):
+    """All crossings of a web with few ties, some of another one: none, all and some ties crossed."""
+    many = len(web[1])
+    if many <= 3:
+        return list(itertools.product((0, 1), repeat=many))
+    none, every = (0,) * many, (1,) * many
+    some = [tuple(int(k % step == at) for k in range(many)) for step, at in ((2, 0), (2, 1), (3, 1), (4, 2))]
+    return [none, every] + some + [none[:-1] + (1,), (1,) + none[:-1]]
+
+
+def floors(webs=WEBS, most=12):
+    """Webs with orders of them, at most so many of each, taken from all over."""
+    for web in webs:
+        orders = some_orders(web)
+        for order in orders[::max(1, len(orders) // most)][:most]:
+            yield web, order
+
+
+def crossed_floors(webs=WEBS, most=6):
+    """Webs with orders and crossings of them."""
+    for web, order in floors(webs, most):
+        for crossings in some_crossings(web):
+            yield web, order, crossings

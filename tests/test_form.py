@@ -16,6 +16,7 @@ BARRED_WORDS = re.compile(
 BARRED_NODES = (
     ast.With, ast.Match, ast.Global, ast.Nonlocal, ast.Yield, ast.YieldFrom, ast.Await, ast.AsyncFunctionDef,
     ast.AsyncFor, ast.AsyncWith, ast.GeneratorExp, ast.NamedExpr, ast.Import, ast.Div, ast.MatMult,
+    ast.Pow, ast.AnnAssign, ast.Starred,
 )
 OWN_NAMES = set(
     "len range enumerate zip min max sum abs sorted reversed int str bool bytes list tuple dict set frozenset"
@@ -59,6 +60,39 @@ class Form(unittest.TestCase):
                 self.assertEqual(node.level, 0, name)
                 self.assertRegex(node.module, r"^holefloor\.[a-z]+$", name)
                 self.assertNotIn("*", [alias.name for alias in node.names], name)
+
+    def test_each_name_is_drawn_from_the_file_that_defines_it(self):
+        trees = {path.stem: ast.parse(path.read_text()) for path in FILES}
+        drawn = {}
+        for name, tree in trees.items():
+            rows = [row for row in tree.body if isinstance(row, ast.ImportFrom)]
+            drawn[name] = {row.module.split(".")[1] for row in rows}
+            for row in rows:
+                source = trees[row.module.split(".")[1]]
+                self.assertLessEqual({alias.name for alias in row.names}, self.tops(source), name)
+        # Files that draw from no file left go away until none is left, but where some draw from one another.
+        while drawn:
+            free = {name for name, others in drawn.items() if not others & set(drawn)}
+            self.assertTrue(free, drawn)
+            drawn = {name: others for name, others in drawn.items() if name not in free}
+
+    def tops(self, tree):
+        names = [row.name for row in tree.body if isinstance(row, (ast.FunctionDef, ast.ClassDef))]
+        names += [target.id for row in tree.body if isinstance(row, ast.Assign) for target in row.targets]
+        return set(names)
+
+    def test_no_local_is_called_like_an_import_or_a_class(self):
+        for path in FILES:
+            tree = ast.parse(path.read_text())
+            top = {alias.name for row in tree.body if isinstance(row, ast.ImportFrom) for alias in row.names}
+            top |= {row.name for row in tree.body if isinstance(row, ast.ClassDef)}
+            for node in ast.walk(tree):
+                if isinstance(node, ast.Name) and isinstance(node.ctx, ast.Store):
+                    self.assertNotIn(node.id, top, path.name)
+                    self.assertRegex(node.id, r"^[A-Za-z]", path.name)
+                if isinstance(node, ast.arg):
+                    self.assertNotIn(node.arg, top, path.name)
+                    self.assertRegex(node.arg, r"^[A-Za-z]", path.name)
 
     def test_nothing_barred_is_written(self):
         for name, node in self.nodes():
