@@ -45,6 +45,16 @@ def row_at(ends, number):
     return tuple(row)
 
 
+def all_orders(web):
+    """All orders of the web by their numbers; for webs that don't have too many to keep."""
+    told = [()]
+    for place in range(web[0]):
+        ends = ends_at(web, place)
+        rows = [row_at(ends, number) for number in range(rows_many(len(ends)))]
+        told = [ahead + (row,) for ahead in told for row in rows]
+    return told
+
+
 def number_of(web, order):
     """The number of the order."""
     number = 0

@@ -21,6 +21,10 @@ NO_TIES = (25, ())
 LONG_PATH = (25, tuple((k, k + 1) for k in range(24)))
 LOOPS_24 = (1, ((0, 0),) * 24)
 TIES_24 = (2, ((0, 1),) * 24)
+# A place of six ends, three of three ends and three of one: 120 times 8 orders.
+ORDERS_960 = (7, ((0, 1), (0, 1), (0, 2), (0, 2), (0, 3), (0, 3), (1, 4), (2, 5), (3, 6)))
+# Ten places of three ends each.
+ORDERS_1024 = (10, tuple((k, (k + 1) % 10) for k in range(10)) + tuple((k, k + 5) for k in range(5)))
 
 SMALL_WEBS = (
     ONE_PLACE, LOOP, TWO_LOOPS, THREE_LOOPS, ONE_TIE, THETA, PATH, STAR, DUMBBELL, FOUR_ALL,

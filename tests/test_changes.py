@@ -1,4 +1,5 @@
 import copy
+import itertools
 import unittest
 
 from holefloor.changes import drawn_in, put_in, taken_out
@@ -20,6 +21,14 @@ ORDER = ((0, 3), (), (1, 2), (4, 5), ())
 
 def corners_of(web, order):
     return list(range(2 * len(web[1]))) + [("place", place) for place, row in enumerate(order) if not row]
+
+
+def ways_to_put_in():
+    """Floors with fewer than 24 ties, each with all pairs of corners."""
+    for web, order in floors(most=4):
+        if len(web[1]) < 24:
+            for one, other in itertools.product(corners_of(web, order), repeat=2):
+                yield web, order, one, other
 
 
 def corner_place(web, corner):
@@ -104,12 +113,8 @@ class PuttingIn(Changing):
         self.assertEqual(put_in(ONE_PLACE, ((),), ("place", 0), ("place", 0)), (LOOP, ((0, 1),)))
 
     def test_faces_and_holes(self):
-        for web, order in floors(most=4):
-            if len(web[1]) < 24:
-                corners = corners_of(web, order)
-                for one in corners:
-                    for other in corners:
-                        self.assert_put_in(web, order, one, other)
+        for web, order, one, other in ways_to_put_in():
+            self.assert_put_in(web, order, one, other)
 
     def test_faces_and_holes_of_the_last_tie(self):
         for web, order in floors((LONG_PATH, LOOPS_24, TIES_24), most=2):
@@ -134,13 +139,9 @@ class PuttingIn(Changing):
             self.assertEqual((more_faces, more_holes), (-1, 0))
 
     def test_put_in_last_and_taken_out_again(self):
-        for web, order in floors(most=3):
-            if len(web[1]) < 24:
-                corners = corners_of(web, order)
-                for one in corners:
-                    for other in corners:
-                        told = put_in(web, order, one, other)
-                        self.assertEqual(taken_out(told[0], told[1], len(web[1])), (web, order))
+        for web, order, one, other in ways_to_put_in():
+            told = put_in(web, order, one, other)
+            self.assertEqual(taken_out(told[0], told[1], len(web[1])), (web, order))
 
     def test_a_web_grown_from_places_alone(self):
         told = (NO_TIES, ((),) * 25)
