@@ -15,7 +15,9 @@ from tests.samples import (
 )
 
 RING_OF_24 = (24, tuple((k, (k + 1) % 24) for k in range(24)))
-COUNTED = tuple(web for web in SMALL_WEBS if web != THREE_BY_THREE) + (NO_TIES, LONG_PATH, RING_OF_24)
+# Its first tree is not the shortest way from the first place to the others.
+BENT = (3, ((1, 2), (0, 1), (0, 2), (2, 1)))
+COUNTED = tuple(web for web in SMALL_WEBS if web != THREE_BY_THREE) + (NO_TIES, LONG_PATH, RING_OF_24, BENT)
 
 
 def tree_by_hand(web):
