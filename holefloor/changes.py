@@ -3,7 +3,7 @@
 from holefloor.errors import NoEnd, NoTie, TooGreat
 from holefloor.orders import least_first
 from holefloor.plain import is_whole
-from holefloor.webs import MOST_TIES, place_of
+from holefloor.webs import MOST_TIES, is_place, is_tie, place_of
 
 
 def put_in(web, order, one, other):
@@ -26,7 +26,7 @@ def corner_place(web, order, corner):
         return place_of(web, corner)
     if isinstance(corner, tuple) and len(corner) == 2 and corner[0] == "place":
         place = corner[1]
-        if is_whole(place) and 0 <= place < web[0] and not order[place]:
+        if is_place(web, place) and not order[place]:
             return place
     raise NoEnd("a corner is an end, or a place without ends")
 
@@ -44,11 +44,6 @@ def taken_out(web, order, tie):
     if not is_tie(web, tie):
         raise NoTie("there is no tie of this number")
     return ((many, ties[:tie] + ties[tie + 1:]), rows_without(order, tie))
-
-
-def is_tie(web, tie):
-    """Whether the thing is the number of a tie."""
-    return is_whole(tie) and 0 <= tie < len(web[1])
 
 
 def rows_without(rows, tie):

@@ -10,3 +10,8 @@ def is_whole(thing):
 def is_row(thing):
     """Whether the thing is a list or a tuple."""
     return isinstance(thing, (list, tuple))
+
+
+def are_wholes(thing):
+    """Whether the thing is a tuple of whole numbers."""
+    return isinstance(thing, tuple) and all([is_whole(number) for number in thing])

@@ -1,7 +1,7 @@
 """Two sides or one: what shows it, and places turned over."""
 
 from holefloor.orders import turned_about
-from holefloor.plain import is_whole
+from holefloor.plain import are_wholes
 from holefloor.webs import parts_of, place_of
 
 
@@ -51,7 +51,7 @@ def shows_sides(web, crossings, thing):
     if not isinstance(thing, tuple) or len(thing) != 2:
         return False
     word, shown = thing
-    if not isinstance(shown, tuple) or not all([is_whole(number) for number in shown]):
+    if not are_wholes(shown):
         return False
     if word == "two":
         return are_sides(web, crossings, shown)

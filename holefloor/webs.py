@@ -1,6 +1,6 @@
 """Webs: places, ties, ends, parts and rank."""
 
-from holefloor.errors import NoWeb
+from holefloor.errors import Apart, NoWeb
 from holefloor.plain import is_row, is_whole
 
 MOST_PLACES = 25
@@ -24,6 +24,16 @@ def tie_of(many, tie):
         if not is_whole(place) or not 0 <= place < many:
             raise NoWeb("a tie leads from a place of the web to a place of it")
     return tuple(tie)
+
+
+def is_place(web, place):
+    """Whether the thing is a place of the web."""
+    return is_whole(place) and 0 <= place < web[0]
+
+
+def is_tie(web, tie):
+    """Whether the thing is the number of a tie."""
+    return is_whole(tie) and 0 <= tie < len(web[1])
 
 
 def ends_at(web, place):
@@ -55,3 +65,9 @@ def rank_of(web):
     """The number of ties, less that of places, that of parts added."""
     many, ties = web
     return len(ties) - many + len(parts_of(web))
+
+
+def refuse_parts(web):
+    """Apart where the web has several parts."""
+    if len(parts_of(web)) > 1:
+        raise Apart("the web has several parts")

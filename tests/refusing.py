@@ -44,3 +44,8 @@ class Refusing(unittest.TestCase):
         for other in REFUSALS:
             self.assertEqual(isinstance(error, other), other is refusal, (other, things))
         self.assertEqual(repr(things), repr(before))
+
+    def assert_told_none(self, call, *things):
+        before = copy.deepcopy(things)
+        self.assertIsNone(call(*things), repr(things))
+        self.assertEqual(repr(things), repr(before))

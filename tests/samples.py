@@ -21,6 +21,15 @@ NO_TIES = (25, ())
 LONG_PATH = (25, tuple((k, k + 1) for k in range(24)))
 LOOPS_24 = (1, ((0, 0),) * 24)
 TIES_24 = (2, ((0, 1),) * 24)
+RING_OF_24 = (24, tuple((k, (k + 1) % 24) for k in range(24)))
+TRIANGLE = (3, ((0, 1), (1, 2), (2, 0)))
+CUBE = (8, tuple((k, k ^ bit) for k in range(8) for bit in (1, 2, 4) if k < k ^ bit))
+# Webs of three ends at each place whose shortest rings have five, six and six ties.
+PETERSEN = (10, tuple((k, (k + 1) % 5) for k in range(5)) + tuple((k, k + 5) for k in range(5))
+            + tuple((5 + k, 5 + (k + 2) % 5) for k in range(5)))
+HEAWOOD = (14, tuple((k, (k + 1) % 14) for k in range(14)) + tuple((k, (k + 5) % 14) for k in range(0, 14, 2)))
+SIXTEEN = (16, tuple((k, (k + 1) % 8) for k in range(8)) + tuple((k, k + 8) for k in range(8))
+           + tuple((8 + k, 8 + (k + 3) % 8) for k in range(8)))
 # A place of six ends, three of three ends and three of one: 120 times 8 orders.
 ORDERS_960 = (7, ((0, 1), (0, 1), (0, 2), (0, 2), (0, 3), (0, 3), (1, 4), (2, 5), (3, 6)))
 # Ten places of three ends each.
@@ -79,3 +88,42 @@ def crossed_floors(webs=WEBS, most=6):
     for web, order in floors(webs, most):
         for crossings in some_crossings(web):
             yield web, order, crossings
+
+
+def holes_by_hand(web, order):
+    """The holes, reckoned from how many rounds the ends go in."""
+    follower = {row[at - 1]: row[at] for row in order for at in range(len(row))}
+    partners = {end: end + 1 - 2 * (end % 2) for end in follower}
+    left, rounds = set(follower), order.count(())
+    while left:
+        rounds += 1
+        end = min(left)
+        while end in left:
+            left.remove(end)
+            end = follower[partners[end]]
+    return (2 * len(bags_of(web)) - web[0] + len(web[1]) - rounds) // 2
+
+
+def bags_of(web):
+    """The parts as sets of places, found by bringing bags of places together."""
+    bags = [{place} for place in range(web[0])]
+    for a, b in web[1]:
+        joined = [bag for bag in bags if a in bag or b in bag]
+        bags = [bag for bag in bags if bag not in joined] + [set().union(*joined)]
+    return bags
+
+
+def varied_webs(many, places, ties, seed=1):
+    """So many webs of one part, of all sorts, of at most so many places and ties; the same ones each time."""
+    told = 0
+    while told < many:
+        web_places = 1 + seed // 7 % places
+        web_ties = []
+        for k in range(seed // 11 % (ties + 1)):
+            seed = (seed * 6364136223846793005 + 1442695040888963407) % 2 ** 64
+            web_ties.append((seed // 2 ** 33 % web_places, seed // 2 ** 45 % web_places))
+        seed = (seed * 6364136223846793005 + 1442695040888963407) % 2 ** 64
+        web = (web_places, tuple(web_ties))
+        if len(bags_of(web)) == 1:
+            told += 1
+            yield web

@@ -5,31 +5,15 @@ from holefloor.counting import counts, fewest, most
 from holefloor.errors import TooMany
 from holefloor.holes import holes
 from holefloor.numbers import number_of, orders_many
-from holefloor.webs import parts_of
 from tests.refusing import Refusing
 from tests.samples import (
-    FOUR_ALL, LONG_PATH, LOOP, LOOPS_24, NO_TIES, ONE_PLACE, ORDERS_960, ORDERS_1024, SMALL_WEBS, THETA,
-    THREE_BY_THREE, THREE_LOOPS, TIES_24, TWO_LOOPS, orders_by_hand,
+    FOUR_ALL, LONG_PATH, LOOP, LOOPS_24, NO_TIES, ONE_PLACE, ORDERS_960, ORDERS_1024, RING_OF_24, SMALL_WEBS, THETA,
+    THREE_BY_THREE, THREE_LOOPS, TIES_24, TWO_LOOPS, holes_by_hand, orders_by_hand,
 )
 
-RING_OF_24 = (24, tuple((k, (k + 1) % 24) for k in range(24)))
 # 960 orders and as many ties and places as a web can have.
 GREAT_960 = (22, ORDERS_960[1] + tuple((k, k + 1) for k in range(6, 21)))
 COUNTED = SMALL_WEBS + (NO_TIES, LONG_PATH, RING_OF_24, ORDERS_960, GREAT_960)
-
-
-def holes_by_hand(web, order):
-    """The holes, reckoned from how many rounds the ends go in."""
-    follower = {row[at - 1]: row[at] for row in order for at in range(len(row))}
-    partners = {end: end + 1 - 2 * (end % 2) for end in follower}
-    left, rounds = set(follower), order.count(())
-    while left:
-        rounds += 1
-        end = min(left)
-        while end in left:
-            left.remove(end)
-            end = follower[partners[end]]
-    return (2 * len(parts_of(web)) - web[0] + len(web[1]) - rounds) // 2
 
 
 def gone_through(web):

@@ -10,11 +10,10 @@ from holefloor.webs import parts_of, rank_of
 from tests.refusing import Refusing
 from tests.samples import (
     DUMBBELL, FOUR_ALL, LONG_PATH, LOOP, LOOPS_24, NO_TIES, ONE_PLACE, ONE_TIE, ORDERS_960, ORDERS_1024, PATH,
-    SCATTERED, SEVERAL, SMALL_WEBS, STAR, THETA, THREE_BY_THREE, THREE_LOOPS, TIES_24, TWO_LOOPS, WEBS,
+    RING_OF_24, SCATTERED, SEVERAL, SMALL_WEBS, STAR, THETA, THREE_BY_THREE, THREE_LOOPS, TIES_24, TWO_LOOPS, WEBS,
     orders_by_hand,
 )
 
-RING_OF_24 = (24, tuple((k, (k + 1) % 24) for k in range(24)))
 # Its first tree is not the shortest way from the first place to the others.
 BENT = (3, ((1, 2), (0, 1), (0, 2), (2, 1)))
 COUNTED = tuple(web for web in SMALL_WEBS if web != THREE_BY_THREE) + (NO_TIES, LONG_PATH, RING_OF_24, BENT)
