@@ -2,7 +2,9 @@
 
 import itertools
 
+from holefloor.counting import counts
 from holefloor.numbers import order_at, orders_many
+from holefloor.webs import ends_at
 
 ONE_PLACE = (1, ())
 LOOP = (1, ((0, 0),))
@@ -127,3 +129,44 @@ def varied_webs(many, places, ties, seed=1):
         if len(bags_of(web)) == 1:
             told += 1
             yield web
+
+
+def renamed(web, order, places, ties, turned):
+    """The floor with its places and ties numbered so and some ties turned about, and a tuple of the ends' new names."""
+    ends = tuple(2 * ties[end // 2] + (end % 2 ^ turned[end // 2]) for end in range(2 * len(web[1])))
+    at = {ends[2 * tie + k]: places[place] for tie, pair in enumerate(web[1]) for k, place in enumerate(pair)}
+    rows = [None] * web[0]
+    for place, row in enumerate(order):
+        moved = [ends[end] for end in row]
+        first = moved.index(min(moved)) if moved else 0
+        rows[places[place]] = tuple(moved[first:] + moved[:first])
+    return ((web[0], tuple((at[end], at[end + 1]) for end in range(0, len(ends), 2))), tuple(rows)), ends
+
+
+def mixed(many, seed):
+    """The numbers below many in some order, which the seed chooses."""
+    return sorted(range(many), key=lambda k: ((k + 1) * (2 * seed + 1) * 7919 % 101, k))
+
+
+def shuffled(web, order, seed):
+    """The floor renamed in some way, which the seed chooses, and a tuple of the ends' new names."""
+    turned = [(seed * (k + 3) // 2) % 2 for k in range(len(web[1]))]
+    return renamed(web, order, mixed(web[0], seed), mixed(len(web[1]), seed), turned)
+
+
+def by_least_ends(web, order):
+    """The floor itself with its places numbered anew: those without ends first, the others by their least ends."""
+    places = sorted(range(web[0]), key=lambda place: order[place][:1])
+    numbers = {place: number for number, place in enumerate(places)}
+    ties = tuple((numbers[a], numbers[b]) for a, b in web[1])
+    return (web[0], ties), tuple(order[place] for place in places)
+
+
+def multiplied(one, place, other, its):
+    """The counts of the web joined by a tie, as point 29 tells."""
+    factor = max(1, len(ends_at(one, place))) * max(1, len(ends_at(other, its)))
+    own, others = counts(one), counts(other)
+    told = [0] * (len(own) + len(others) - 1)
+    for (a, many), (b, more) in itertools.product(enumerate(own), enumerate(others)):
+        told[a + b] += factor * many * more
+    return told

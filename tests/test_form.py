@@ -25,6 +25,11 @@ OWN_NAMES = set(
     " StopIteration".split()
 )
 BUILT_IN = set(dir(builtins))
+METHODS = set(
+    "append clear copy count endswith extend find get index insert isalnum isalpha isdigit islower isspace isupper"
+    " items join keys ljust lower lstrip partition pop remove replace reverse rfind rjust rpartition rsplit rstrip"
+    " setdefault split splitlines startswith strip update upper values zfill bit_length add discard".split()
+)
 
 
 class Form(unittest.TestCase):
@@ -105,3 +110,58 @@ class Form(unittest.TestCase):
                 self.assertIsInstance(node.ctx, ast.Load, (name, node.id))
             if isinstance(node, ast.arg):
                 self.assertNotIn(node.arg, BUILT_IN, name)
+
+    def test_each_name_of_a_top_is_bound_once_and_holds_plain_things(self):
+        for path in FILES:
+            tree = ast.parse(path.read_text())
+            names = [alias.name for row in tree.body if isinstance(row, ast.ImportFrom) for alias in row.names]
+            names += [row.name for row in tree.body if isinstance(row, (ast.FunctionDef, ast.ClassDef))]
+            for row in tree.body:
+                self.assertIsInstance(row, (ast.Expr, ast.ImportFrom, ast.FunctionDef, ast.ClassDef, ast.Assign), path)
+                if isinstance(row, ast.Assign):
+                    names += [target.id for target in row.targets]
+                    inner = [node for node in ast.walk(row.value) if node is not row.value]
+                    for node in inner:
+                        self.assertNotIsInstance(node, (ast.List, ast.Dict, ast.Set, ast.Call, ast.ListComp), path)
+            self.assertEqual(len(set(names)), len(names), path.name)
+
+    def test_methods_and_values(self):
+        classes = [node for name, node in self.nodes() if isinstance(node, ast.ClassDef)]
+        methods = [row.name for node in classes for row in node.body if isinstance(row, ast.FunctionDef)]
+        values = {
+            target.attr for node in classes for row in ast.walk(node) if isinstance(row, ast.Assign)
+            for target in row.targets if isinstance(target, ast.Attribute)
+        }
+        own = {method for method in methods if method != "__init__"}
+        self.assertFalse(own & values)
+        self.assertFalse((own | values) & METHODS)
+        for name, node in self.nodes():
+            if isinstance(node, ast.Attribute):
+                self.assertIn(node.attr, METHODS | own | values, name)
+
+    def test_statements(self):
+        for name, node in self.nodes():
+            if isinstance(node, (ast.For, ast.While)):
+                self.assertEqual(node.orelse, [], name)
+            if isinstance(node, ast.Try):
+                self.assertEqual(node.finalbody, [], name)
+                for handler in node.handlers:
+                    self.assertRegex(handler.type.id, r"^(No[A-Z]|Too|Apart)", name)
+            if isinstance(node, ast.Raise):
+                self.assertIsInstance(node.exc, ast.Call, name)
+            if isinstance(node, ast.Compare):
+                for sign, right in zip(node.ops, node.comparators):
+                    if isinstance(sign, (ast.Is, ast.IsNot)):
+                        self.assertIn(ast.unparse(right), ("None", "True", "False"), name)
+
+    def test_sets_are_asked_or_kept_as_told(self):
+        for path in FILES:
+            tree = ast.parse(path.read_text())
+            straight = [row.value for row in ast.walk(tree) if isinstance(row, ast.Assign)]
+            for node in ast.walk(tree):
+                if isinstance(node, ast.Call) and isinstance(node.func, ast.Name) and node.func.id in ("sorted", "len"):
+                    straight += node.args
+            for node in ast.walk(tree):
+                is_call = isinstance(node, ast.Call) and isinstance(node.func, ast.Name) and node.func.id == "set"
+                if is_call or isinstance(node, (ast.Set, ast.SetComp)):
+                    self.assertIn(node, straight, path.name)

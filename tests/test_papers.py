@@ -10,7 +10,7 @@ from holefloor.trees import laid, tree_shows
 from tests.refusing import Refusing
 from tests.samples import (
     DUMBBELL, FOUR_ALL, LONG_PATH, LOOP, LOOPS_24, NO_TIES, ONE_PLACE, ONE_TIE, PATH, SCATTERED, SEVERAL, SMALL_WEBS,
-    STAR, THETA, THREE_BY_THREE, THREE_LOOPS, TIES_24, TRIANGLE, TWO_LOOPS, bags_of, varied_webs,
+    STAR, THETA, THREE_BY_THREE, THREE_LOOPS, TIES_24, TRIANGLE, TWO_LOOPS, bags_of, mixed, varied_webs,
 )
 
 TEN_LOOPS = (1, ((0, 0),) * 10)
@@ -23,16 +23,20 @@ LOOPED_STAR = (6, ((0, 1), (1, 1), (0, 2), (2, 2), (0, 3), (3, 3), (0, 4), (4, 4
 LOOPED_PATH = (5, ((0, 0), (0, 1), (1, 1), (1, 2), (2, 2), (2, 3), (3, 3), (3, 4), (4, 4)))
 # Rings of three and two ties that hang together by single places and ties.
 CHAINED = (6, ((0, 1), (1, 2), (2, 0), (2, 3), (3, 4), (4, 3), (4, 5), (5, 5), (5, 4), (0, 0)))
+# Two places, each tied to each of three others; the first four ties make a tree beside which no two ties meet.
+TWO_BY_THREE = (5, ((2, 1), (0, 3), (0, 4), (4, 1), (0, 2), (1, 3)))
 KNOWN = (
     (ONE_PLACE, 0), (LOOP, 0), (TWO_LOOPS, 1), (THREE_LOOPS, 1), (ONE_TIE, 0), (THETA, 1), (PATH, 0), (STAR, 0),
     (DUMBBELL, 0), (FOUR_ALL, 1), (THREE_BY_THREE, 2), (TRIANGLE, 0), (TEN_LOOPS, 5), (TEN_TIES, 4), (FIVE_ALL, 3),
     (PATH_OF_TEN, 0), (RING_OF_TEN, 0), (LOOPED_STAR, 0), (LOOPED_PATH, 0),
+    (TWO_BY_THREE, 1), ((2, ((0, 1), (0, 0), (1, 1))), 0),
 )
 
 
 def of_one_part():
     yield from (web for web in SMALL_WEBS if len(bags_of(web)) == 1)
     yield from (TEN_LOOPS, TEN_TIES, FIVE_ALL, PATH_OF_TEN, RING_OF_TEN, LOOPED_STAR, LOOPED_PATH, CHAINED)
+    yield TWO_BY_THREE
     yield from varied_webs(150, 8, 10, 7)
     yield from (web for web in varied_webs(150, 11, 10, 8) if len(web[1]) == 10)
 
@@ -65,6 +69,16 @@ class MostPapers(Refusing):
     def test_webs_of_just_ten_ties_of_all_sorts(self):
         webs = [web for web in of_one_part() if len(web[1]) == 10]
         self.assertGreater(len({web[0] for web in webs}), 6)
+
+    def test_ties_numbered_in_many_ways(self):
+        tied_once_more = (5, TWO_BY_THREE[1] + ((2, 3),))
+        # Beyond single ties two places with ties to themselves, which no pair can use.
+        looped = (7, TWO_BY_THREE[1] + ((2, 5), (5, 5), (3, 6), (6, 6)))
+        for web, right in ((TWO_BY_THREE, 1), (tied_once_more, 1), (looped, 1), (CHAINED, most_papers(CHAINED)[0])):
+            for seed in range(50):
+                other = (web[0], tuple(web[1][tie] for tie in mixed(len(web[1]), seed)))
+                many, tree_paper, set_paper = most_papers(other)
+                self.assertEqual((many, tree_shows(other, tree_paper), set_bars(other, set_paper)), (right,) * 3)
 
     def test_told_again_alike_and_the_web_as_it_was(self):
         for web, many in KNOWN:

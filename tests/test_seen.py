@@ -9,16 +9,8 @@ from holefloor.webs import web_of
 from tests.refusing import Refusing
 from tests.samples import (
     LONG_PATH, LOOP, LOOPS_24, NO_TIES, ONE_PLACE, ONE_TIE, SCATTERED, SMALL_WEBS, THETA, TIES_24, TWO_LOOPS, WEBS,
-    floors, orders_by_hand, some_orders,
+    by_least_ends, floors, orders_by_hand, some_orders,
 )
-
-
-def by_least_ends(web, order):
-    """The floor itself with its places numbered anew: those without ends first, the others by their least ends."""
-    places = sorted(range(web[0]), key=lambda place: order[place][:1])
-    numbers = {place: number for number, place in enumerate(places)}
-    ties = tuple((numbers[a], numbers[b]) for a, b in web[1])
-    return (web[0], ties), tuple(order[place] for place in places)
 
 
 def floors_of_few_faces():
